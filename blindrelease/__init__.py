@@ -1,0 +1,1 @@
+"""What goes out blind: releases of a table that hide each of its sleepers."""
