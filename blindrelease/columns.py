@@ -13,6 +13,10 @@ class NumbersColumn:
     def is_filled(self):
         return True
 
+    # The lines of a form's text that tell the column, but for its costs.
+    def opening_lines(self):
+        return [" ".join(["numbers", self.title] + [str(step) for step in self.steps])]
+
     def level_count(self):
         return len(self.steps) + 2
 
@@ -50,6 +54,9 @@ class WordsColumn:
 
     def is_filled(self):
         return self.chains != []
+
+    def opening_lines(self):
+        return ["words " + self.title] + ["word " + " of ".join(chain[:2]) for chain in self.chains]
 
     def level_count(self):
         return self.longest_chain + 1

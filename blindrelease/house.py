@@ -1,12 +1,17 @@
 """The entrance: a list of calls comes in, the list of their answers goes out."""
 
 from blindrelease.plans import best_release
+from blindrelease.plans import hiding_of
+from blindrelease.plans import next_counts
 from blindrelease.plans import release_at
 from blindrelease.reading import FormReader
 from blindrelease.signs import bytes_of
 from blindrelease.table import Row
 from blindrelease.table import class_of
+from blindrelease.table import secret_counts
 from blindrelease.table import unlike_secrets
+from blindrelease.writing import form_text
+from blindrelease.writing import release_text
 
 NO_FORM = -9
 NOT_AS_TOLD = -1
@@ -46,6 +51,9 @@ class House:
     def has_released(self, row):
         return any([release.has(row) for release in self.releases])
 
+    def hiding(self, w):
+        return hiding_of(self.rows[w], self.rows_in_order(), self.releases)
+
 
 def is_row_as_told(form, w, s, cells):
     return 0 <= w <= GREATEST_SLEEPER and form.takes_secret(s) and form.takes_cells(cells)
@@ -57,6 +65,10 @@ def are_k_and_u_as_told(k, u):
 
 def is_plan_as_told(form, numbers, asked):
     return are_k_and_u_as_told(numbers[0], numbers[1]) and 0 <= numbers[2] <= GREATEST_M and form.takes_asked(asked)
+
+
+def counted_bytes(text):
+    return [len(text)] + bytes_of(text)
 
 
 def answer_form(house, numbers, data):
@@ -103,8 +115,7 @@ def answer_show(house, numbers, levels):
         return [NO_SLEEPER]
     answer = [0]
     for look in house.form.looks_of(house.rows[w].cells, levels):
-        answer.append(len(look))
-        answer.extend(bytes_of(look))
+        answer.extend(counted_bytes(look))
     return answer
 
 
@@ -150,7 +161,57 @@ def answer_release(house, numbers, asked):
     return [0, house.form.cost_at(release.levels)] + release.told()
 
 
-# By the calls' numbers. numbers: the call's whole numbers; of plan and release k, u, m.
+def answer_text(house, numbers, row):
+    q = numbers[0]
+    if not 0 <= q < len(house.releases):
+        return [NOT_AS_TOLD]
+    return [0] + counted_bytes(release_text(house.form, house.rows_in_order(), house.releases[q]))
+
+
+def answer_releases(house, numbers, row):
+    answer = [0, len(house.releases)]
+    for release in house.releases:
+        answer.extend(release.told())
+    return answer
+
+
+def answer_hidden(house, numbers, row):
+    w = numbers[0]
+    if w not in house.rows:
+        return [NO_SLEEPER]
+    hiding = house.hiding(w)
+    return [0, hiding.k, hiding.u, len(hiding.among), unlike_secrets(hiding.among)]
+
+
+def answer_could(house, numbers, row):
+    w = numbers[0]
+    if w not in house.rows:
+        return [NO_SLEEPER]
+    return [0] + secret_counts(house.hiding(w).among, len(house.form.secret_values))
+
+
+def answer_cost(house, numbers, levels):
+    if not house.form.takes_levels(levels):
+        return [NOT_AS_TOLD]
+    return [0, house.form.cost_at(levels)]
+
+
+def answer_next(house, numbers, asked):
+    if not is_plan_as_told(house.form, numbers, asked):
+        return [NOT_AS_TOLD]
+    return [0] + next_counts(house.form, house.rows_in_order(), house.releases, numbers, asked)
+
+
+def answer_print(house, numbers, row):
+    return [0] + counted_bytes(form_text(house.form))
+
+
+def answer_counts(house, numbers, row):
+    form = house.form
+    return [0, len(form.columns), len(form.secret_values), len(house.rows), len(house.releases)]
+
+
+# By the calls' numbers. numbers: the call's whole numbers; of plan, release and next k, u, m.
 ANSWERERS = (
     answer_form,
     answer_sleeper,
@@ -160,14 +221,20 @@ ANSWERERS = (
     answer_short,
     answer_plan,
     answer_release,
+    answer_text,
+    answer_releases,
+    answer_hidden,
+    answer_could,
+    answer_cost,
+    answer_next,
+    answer_print,
+    answer_counts,
 )
 
 
 def answer_call(house, call, numbers, row):
     if call != FORM and house.form is None:
         return [NO_FORM]
-    if call >= len(ANSWERERS):
-        raise NotImplementedError(f"call {call} is not built yet")
     return ANSWERERS[call](house, numbers, row)
 
 

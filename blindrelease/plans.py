@@ -50,11 +50,15 @@ def hiding_with(hiding, release):
     return Hiding(hiding.row, among, max(hiding.k, release.k), max(hiding.u, release.u))
 
 
-def hidings_of(rows, releases):
-    hidings = [Hiding(row, rows, 0, 0) for row in rows]
+def hiding_of(row, rows, releases):
+    hiding = Hiding(row, rows, 0, 0)
     for release in releases:
-        hidings = [hiding_with(hiding, release) for hiding in hidings]
-    return hidings
+        hiding = hiding_with(hiding, release)
+    return hiding
+
+
+def hidings_of(rows, releases):
+    return [hiding_of(row, rows, releases) for row in rows]
 
 
 def is_safe_with(hidings, release):
@@ -77,22 +81,34 @@ def levels_looked_at(form, asked):
     return found
 
 
-# hidings: of the releases that went out. They are the same for all levels, so they are made once.
-def may_go_out(release, m, hidings):
-    if release.left_out > m or len(release.looks) == 0:
-        return False
-    return is_safe_with(hidings, release)
+def releases_looked_at(form, rows, k, u, asked):
+    return [release_at(form, rows, levels, k, u) for levels in levels_looked_at(form, asked)]
+
+
+# Those that might go out if none had: a release by itself hides each row that it has among the row's
+# class, which is enough, so it is always safe.
+def safe_alone(looked_at, m):
+    return [release for release in looked_at if release.left_out <= m and len(release.looks) > 0]
+
+
+# The hidings of what went out are the same for all levels, so they are made once.
+def that_may_go_out(looked_at, m, rows, releases):
+    hidings = hidings_of(rows, releases)
+    return [release for release in safe_alone(looked_at, m) if is_safe_with(hidings, release)]
 
 
 # None if no release may go out.
 def best_release(form, rows, releases, numbers, asked):
-    k = numbers[0]
-    u = numbers[1]
-    m = numbers[2]
-    hidings = hidings_of(rows, releases)
-    candidates = [release_at(form, rows, levels, k, u) for levels in levels_looked_at(form, asked)]
+    looked_at = releases_looked_at(form, rows, numbers[0], numbers[1], asked)
     return min(
-        [release for release in candidates if may_go_out(release, m, hidings)],
+        that_may_go_out(looked_at, numbers[2], rows, releases),
         key=lambda release: (form.cost_at(release.levels), release.left_out, release.levels),
         default=None,
     )
+
+
+# How many are looked at, how many of these may go out, and how many might if none had gone out.
+def next_counts(form, rows, releases, numbers, asked):
+    looked_at = releases_looked_at(form, rows, numbers[0], numbers[1], asked)
+    m = numbers[2]
+    return [len(looked_at), len(that_may_go_out(looked_at, m, rows, releases)), len(safe_alone(looked_at, m))]

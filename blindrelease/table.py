@@ -12,6 +12,12 @@ def unlike_secrets(rows):
     return len(set([row.secret for row in rows]))
 
 
+# For each value of the secret, in order, how many of the rows have it.
+def secret_counts(rows, value_count):
+    secrets = [row.secret for row in rows]
+    return [secrets.count(value) for value in range(value_count)]
+
+
 def are_enough(rows, k, u):
     return len(rows) >= k and unlike_secrets(rows) >= u
 

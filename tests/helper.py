@@ -36,6 +36,38 @@ def release(k, u, m, *columns):
     return [7, k, u, m, len(columns)] + list(columns)
 
 
+def text(q):
+    return [8, q]
+
+
+def releases():
+    return [9]
+
+
+def hidden(w):
+    return [10, w]
+
+
+def could(w):
+    return [11, w]
+
+
+def cost(*levels):
+    return [12, len(levels)] + list(levels)
+
+
+def next_plan(k, u, m, *columns):
+    return [13, k, u, m, len(columns)] + list(columns)
+
+
+def printed():
+    return [14]
+
+
+def counts():
+    return [15]
+
+
 def joined(calls):
     return [number for call in calls for number in call]
 
@@ -79,3 +111,9 @@ def looks(answer):
         found.append(bytes(answer[place + 1:place + 1 + count]).decode("ascii"))
         place += 1 + count
     return found
+
+
+def told_text(answer):
+    if answer[0] != 0 or answer[1] != len(answer) - 2:
+        raise AssertionError(f"no 0 and right count of bytes at the beginning of {answer}")
+    return bytes(answer[2:]).decode("ascii")

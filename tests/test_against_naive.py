@@ -1,11 +1,13 @@
 """Many made-up lists of calls, answered a second time straight from the document's words and compared."""
 
+import collections
 import itertools
 import random
 import re
 import unittest
 
-from helper import alike, ask, change, form, plan, release, short, show, sleeper
+from helper import (alike, ask, change, cost, could, counts, form, hidden, last, next_plan, plan, printed, release,
+                    releases, short, show, sleeper, text, told_text)
 
 NAME = re.compile(rb"[a-z]{1,10}\Z")
 NUMBER = re.compile(rb"(0|[1-9][0-9]*)\Z")
@@ -116,6 +118,7 @@ class NaiveHouse:
         self.secrets = secrets
         self.rows = {}
         self.releases = []
+        self.known = {}
 
     def look(self, w, number, level):
         column, cell = self.columns[number], self.rows[w][1][number]
@@ -130,10 +133,14 @@ class NaiveHouse:
         return column["words"][cell]
 
     def looks(self, w, levels):
-        return [self.look(w, number, level) for number, level in enumerate(levels)]
+        known = (tuple(self.rows[w][1]), tuple(levels))
+        if known not in self.known:
+            self.known[known] = tuple(self.look(w, number, level) for number, level in enumerate(levels))
+        return self.known[known]
 
     def alike(self, w, levels):
-        return {other for other in self.rows if self.looks(other, levels) == self.looks(w, levels)}
+        looks = self.looks(w, levels)
+        return {other for other in self.rows if self.looks(other, levels) == looks}
 
     def enough(self, sleepers, k, u):
         return len(sleepers) >= k and len({self.rows[w][0] for w in sleepers}) >= u
@@ -141,53 +148,102 @@ class NaiveHouse:
     def has_at(self, levels, k, u):
         return {w for w in self.rows if self.enough(self.alike(w, levels), k, u)}
 
-    def safe(self, releases):
-        for w in self.rows:
-            having = [one for one in releases if w in one["has"]]
-            hidden = set(self.rows)
-            for one in having:
-                hidden &= self.alike(w, one["levels"]) & one["has"]
-            greatest_k = max([one["k"] for one in having], default=0)
-            greatest_u = max([one["u"] for one in having], default=0)
-            if not self.enough(hidden, greatest_k, greatest_u):
-                return False
-        return True
+    def hidden(self, w, releases):
+        """Among whom the releases hide w, and their greatest k and u."""
+        having = [one for one in releases if w in one["has"]]
+        hidden = set(self.rows)
+        for one in having:
+            hidden &= self.alike(w, one["levels"]) & one["has"]
+        return hidden, max([one["k"] for one in having], default=0), max([one["u"] for one in having], default=0)
 
-    def plan(self, k, u, m, asked, seen):
+    def safe(self, releases):
+        return all(self.enough(*self.hidden(w, releases)) for w in self.rows)
+
+    def levels_looked_at(self, asked):
+        return list(itertools.product(*[range(len(column["costs"])) if mark else [len(column["costs"]) - 1]
+                                        for column, mark in zip(self.columns, asked)]))
+
+    def cost(self, levels):
+        return sum(column["costs"][level] for column, level in zip(self.columns, levels))
+
+    def that_may_go_out(self, k, u, m, asked, releases):
         found = []
-        ranges = [range(len(column["costs"])) if mark else [len(column["costs"]) - 1]
-                  for column, mark in zip(self.columns, asked)]
-        for levels in itertools.product(*ranges):
+        for levels in self.levels_looked_at(asked):
             has = self.has_at(levels, k, u)
             left = len(self.rows) - len(has)
-            if not has or left > m:
-                continue
-            one = {"levels": levels, "k": k, "u": u, "has": has, "left": left}
-            one["cost"] = sum(column["costs"][level] for column, level in zip(self.columns, levels))
-            if not self.safe(self.releases + [one]):
-                seen["unsafe"] += 1
-                continue
-            found.append(one)
+            one = {"levels": levels, "k": k, "u": u, "has": has, "left": left, "cost": self.cost(levels)}
+            if has and left <= m and self.safe(releases + [one]):
+                found.append(one)
+        return found
+
+    def plan(self, k, u, m, asked, seen):
+        found = self.that_may_go_out(k, u, m, asked, self.releases)
         found.sort(key=lambda one: (one["cost"], one["left"], one["levels"]))
         seen["none" if not found else "left out" if found[0]["left"] else "all"] += 1
         return found[0] if found else None
 
+    def shares(self, sleepers):
+        return [sum(self.rows[w][0] == value for w in sleepers) for value in range(self.secrets)]
+
+    def text(self, one):
+        lines = {}
+        for w in one["has"]:
+            cells = tuple(look.encode() for look in self.looks(w, one["levels"]))
+            lines[cells] = [*cells, b":"] + [b"%d" % share for share in self.shares(self.alike(w, one["levels"]) & one["has"])]
+        return b"".join(b" ".join(lines[cells]) + b"\n" for cells in sorted(lines))
+
+    def refusal(self, call):
+        """-1 to -6, or 0 if the call isn't refused; -8 aside."""
+        number, rest = call[0], call[1:]
+        tops = [len(column["costs"]) - 1 for column in self.columns]
+        if number in (1, 2):
+            bounds = [1000000 if "steps" in column else len(column["words"]) - 1 for column in self.columns]
+            if not 0 <= rest[0] <= 999 or not 0 <= rest[1] < self.secrets or not within(rest[3:], bounds):
+                return -1
+        if number in (3, 4) and not within(rest[2:], tops) or number == 12 and not within(rest[1:], tops):
+            return -1
+        if number == 8 and rest[0] not in range(len(self.releases)):
+            return -1
+        if number in (5, 6, 7, 13) and not (1 <= rest[0] <= 40 and 1 <= rest[1] <= 12):
+            return -1
+        if number == 5 and not within(rest[3:], tops):
+            return -1
+        if number in (6, 7, 13) and not (0 <= rest[2] <= 40 and within(rest[4:], [1] * len(tops))):
+            return -1
+        if number in (2, 3, 4, 10, 11) and rest[0] not in self.rows:
+            return -4
+        if number == 1 and rest[0] in self.rows or number == 2 and any(rest[0] in one["has"] for one in self.releases):
+            return -5
+        if number == 1 and len(self.rows) == 40 or number == 7 and len(self.releases) == 4:
+            return -6
+        return 0
+
+
+def within(numbers, bounds):
+    return len(numbers) == len(bounds) and all(0 <= number <= bound for number, bound in zip(numbers, bounds))
+
 
 def told(one):
-    return [one["cost"], *one["levels"], one["k"], one["u"], len(one["has"]), one["left"]]
+    return [*one["levels"], one["k"], one["u"], len(one["has"]), one["left"]]
 
 
 def naive_answer(house, call, seen):
+    """The answer to any call but form."""
+    if house is None:
+        seen[-9] += 1
+        return [-9]
+    number = call[0]
+    answer = [house.refusal(call)]
+    if answer == [0]:
+        answer = naive_later_answer(house, call, seen) if number > 5 else naive_early_answer(house, call)
+    seen[(number, answer[0])] += 1
+    return answer
+
+
+def naive_early_answer(house, call):
     number = call[0]
     if number in (1, 2):
-        w, secret, cells = call[1], call[2], call[4:]
-        if number == 1 and w in house.rows:
-            return [-5]
-        if number == 2 and w not in house.rows:
-            return [-4]
-        if number == 2 and any(w in one["has"] for one in house.releases):
-            return [-5]
-        house.rows[w] = (secret, cells)
+        house.rows[call[1]] = (call[2], call[4:])
         return [0]
     if number == 3:
         looks = [list(look.encode()) for look in house.looks(call[1], call[3:])]
@@ -195,24 +251,49 @@ def naive_answer(house, call, seen):
     if number == 4:
         found = house.alike(call[1], call[3:])
         return [0, len(found), len({house.rows[w][0] for w in found})]
-    if number == 5:
-        has = house.has_at(call[4:], call[1], call[2])
-        out = [w for w in house.rows if w not in has]
-        return [0, len(out)] + out
-    if number == 7 and len(house.releases) == 4:
-        return [-6]
-    best = house.plan(*call[1:4], call[5:], seen)
-    if best is None:
-        return [0, 0] if number == 6 else [-8]
-    if number == 6:
-        return [0, 1] + told(best)
-    house.releases.append(best)
-    return [0] + told(best)
+    has = house.has_at(call[4:], call[1], call[2])
+    out = [w for w in house.rows if w not in has]
+    return [0, len(out)] + out
 
 
-def mixed_columns(dice):
+def naive_later_answer(house, call, seen):
+    number = call[0]
+    if number in (6, 7):
+        best = house.plan(*call[1:4], call[5:], seen)
+        if best is None:
+            return [0, 0] if number == 6 else [-8]
+        if number == 7:
+            house.releases.append(best)
+        return [0] + [1] * (7 - number) + [best["cost"]] + told(best)
+    if number == 8:
+        data = house.text(house.releases[call[1]])
+        seen["lines"] += data.count(b"\n") > 1
+        return [0, len(data), *data]
+    if number == 9:
+        return [0, len(house.releases)] + [part for one in house.releases for part in told(one)]
+    if number == 10:
+        found, k, u = house.hidden(call[1], house.releases)
+        seen["hidden"] += len(found) < len(house.rows)
+        return [0, k, u, len(found), len({house.rows[w][0] for w in found})]
+    if number == 11:
+        return [0] + house.shares(house.hidden(call[1], house.releases)[0])
+    if number == 12:
+        return [0, house.cost(call[2:])]
+    if number == 13:
+        found = house.that_may_go_out(*call[1:4], call[5:], house.releases)
+        alone = house.that_may_go_out(*call[1:4], call[5:], [])
+        looked_at = house.levels_looked_at(call[5:])
+        seen["unsafe"] += len(found) < len(alone) < len(looked_at)
+        return [0, len(looked_at), len(found), len(alone)]
+    if number == 14:
+        data = text_of(house.columns, house.secrets).encode()
+        return [0, len(data), *data]
+    return [0, len(house.columns), house.secrets, len(house.rows), len(house.releases)]
+
+
+def mixed_columns(dice, count=None):
     columns = []
-    for name in dice.sample(["age", "town", "job", "size"], dice.choice([1, 2, 2, 3])):
+    for name in dice.sample(["age", "town", "job", "size"], count or dice.choice([1, 2, 2, 3])):
         if dice.random() < 0.5:
             column = {"name": name, "steps": dice.choice([[], [4], [2, 4], [3, 9]])}
             count = len(column["steps"]) + 2
@@ -245,25 +326,84 @@ def text_of(columns, secrets):
 
 
 def mixed_call(dice, house):
+    """Any call but form: mostly one that isn't refused."""
     def cells():
         return [dice.randint(0, 9) if "steps" in column else dice.randrange(len(column["words"]))
                 for column in house.columns]
     levels = [dice.randrange(len(column["costs"])) for column in house.columns]
     asked = [dice.choice([0, 1, 1]) for _ in house.columns]
     k, u, m = dice.choice([1, 2, 2, 3, 4]), dice.choice([1, 1, 2, 2, 3]), dice.choice([0, 1, 2, 4, 40])
-    w = dice.choice(list(house.rows)) if house.rows else None
-    what = dice.randrange(12) if w is not None else 0
-    if what < 4:
-        return sleeper(dice.randint(0, 30), dice.randrange(house.secrets), *cells())
-    if what == 4:
-        return change(dice.randint(0, 30), dice.randrange(house.secrets), *cells())
-    if what == 5:
-        return show(w, *levels)
-    if what == 6:
-        return alike(w, *levels)
-    if what == 7:
-        return short(k, u, *levels)
-    return dice.choice([plan, release])(k, u, m, *asked)
+    w = dice.choice(list(house.rows) + [dice.randint(-1, 60)])
+    secret = dice.randrange(house.secrets)
+    what = dice.randrange(23) if house.rows else 0
+    if what < 7:
+        return sleeper(dice.randint(0, 60), secret, *cells())
+    single = [change(w, secret, *cells()), show(w, *levels), alike(w, *levels), short(k, u, *levels)]
+    single += [plan(k, u, m, *asked), release(k, u, m, *asked), release(k, u, m, *asked), text(dice.randint(-1, 4))]
+    single += [text(dice.randint(0, 2)), releases(), hidden(w), could(w), cost(*levels), next_plan(k, u, m, *asked)]
+    single += [printed(), counts()]
+    return single[what - 7]
+
+
+def spoiled(dice, call):
+    """The same call with one number of it made another, or with its list one longer or shorter."""
+    lists = {1: 3, 2: 3, 3: 2, 4: 2, 5: 3, 6: 4, 7: 4, 12: 1, 13: 4}
+    call = list(call)
+    count_at = lists.get(call[0], len(call))
+    places = [place for place in range(1, len(call)) if place != count_at]
+    if call[0] in lists and dice.random() < 0.3:
+        call[count_at] += 1
+        call.append(dice.choice([0, 1]))
+        if dice.random() < 0.5 and call[count_at] > 1:
+            call[count_at] -= 2
+            call[-2:] = []
+    elif places:
+        call[dice.choice(places)] = dice.choice([-1, 0, 1, 4, 12, 13, 40, 41, 999, 1000, 10 ** 18, -10 ** 18])
+    return call
+
+
+def mixed_house(dice, column_count=None):
+    return NaiveHouse(mixed_columns(dice, column_count), dice.choice([2, 3, 5]))
+
+
+def mixed_form(dice, house):
+    """The house's form with a few blanks and lines without words more, and perhaps with the secret elsewhere."""
+    lines = text_of(house.columns, house.secrets).split("\n")[:-1]
+    if dice.random() < 0.5:
+        secret = lines.pop()
+        ends = [0] + [place + 1 for place, line in enumerate(lines) if line.startswith("costs")]
+        lines.insert(dice.choice(ends), secret)
+    for place in reversed(range(len(lines))):
+        if dice.random() < 0.2:
+            lines.insert(place, " " * dice.randrange(3))
+        if dice.random() < 0.2:
+            lines[place] = lines[place].replace(" ", "  ") + " "
+    return form("\n".join(lines) + dice.choice(["", "\n", "\n  \n"]))
+
+
+def mixed_list(dice, seen, length, house):
+    """A list of calls and its answers; house: what the first form tells."""
+    waiting, house = house, None
+    calls, expected, plans = [], [], 0
+    while len(calls) < length:
+        if house is None and dice.random() < 0.7 or dice.random() < 0.01:
+            if dice.random() < 0.2:
+                calls.append(form(mixed_text(dice) + "\nsecret secret secret"))
+                expected.append(naive_form(bytes(calls[-1][2:])))
+                continue
+            house, waiting = waiting or mixed_house(dice), None
+            calls.append(mixed_form(dice, house))
+            expected.append([0, len(house.columns), house.secrets] + [len(column["costs"]) for column in house.columns])
+            continue
+        call = mixed_call(dice, house or waiting or mixed_house(dice))
+        if dice.random() < 0.1:
+            call = spoiled(dice, call)
+        plans += call[0] in (6, 7, 13)
+        if call[0] in (6, 7, 13) and plans > 12:
+            continue
+        calls.append(call)
+        expected.append(naive_answer(house, call, seen))
+    return calls, expected
 
 
 class AgainstNaive(unittest.TestCase):
@@ -271,29 +411,53 @@ class AgainstNaive(unittest.TestCase):
         dice = random.Random(7)
         right = 0
         for _ in range(4000):
-            text = mixed_text(dice)
-            expected = naive_form(text.encode())
+            data = mixed_text(dice)
+            expected = naive_form(data.encode())
             right += expected[0] == 0
-            self.assertEqual(ask(form(text)), [expected], text)
+            self.assertEqual(ask(form(data)), [expected], data)
         self.assertTrue(800 < right < 3200, right)
+
+    def test_printed_forms_are_read_again(self):
+        dice = random.Random(5)
+        for _ in range(300):
+            house = mixed_house(dice)
+            once = last(mixed_form(dice, house), printed())
+            self.assertEqual(told_text(once), text_of(house.columns, house.secrets))
+            self.assertEqual(last(form(told_text(once)), printed()), once)
 
     def test_calls(self):
         dice = random.Random(11)
-        seen = {"unsafe": 0, "none": 0, "left out": 0, "all": 0}
+        seen = collections.Counter()
         for _ in range(150):
-            house = NaiveHouse(mixed_columns(dice), dice.choice([2, 3, 5]))
+            calls, expected = mixed_list(dice, seen, 70, mixed_house(dice))
+            self.assertEqual(ask(*calls), expected)
+        for what in [-9, "none", "left out", "all", "lines", "hidden", "unsafe", (1, -5), (2, -5), (7, -8)]:
+            self.assertGreater(seen[what], 50, what)
+        self.assertGreater(seen[(7, -6)], 10)
+        for number in range(1, 16):
+            self.assertGreater(seen[(number, 0)], 100, number)
+        for number in (1, 2, 3, 4, 5, 6, 7, 8, 12, 13):
+            self.assertGreater(seen[(number, -1)], 5, number)
+        for number in (2, 3, 4, 10, 11):
+            self.assertGreater(seen[(number, -4)], 20, number)
+
+    def test_the_longest_lists(self):
+        dice = random.Random(3)
+        for _ in range(4):
+            seen = collections.Counter()
+            house = mixed_house(dice, 4)
             calls = [form(text_of(house.columns, house.secrets))]
-            expected = [[0, len(house.columns), house.secrets] + [len(column["costs"]) for column in house.columns]]
+            expected = [[0, 4, house.secrets] + [len(column["costs"]) for column in house.columns]]
             plans = 0
-            for _ in range(45):
+            while len(calls) < 150:
                 call = mixed_call(dice, house)
-                plans += call[0] > 5
-                if plans > 12:
-                    break
+                if (len(house.rows) < 40 and call[0] != 1) or (call[0] in (6, 7, 13) and plans == 12):
+                    continue
+                plans += call[0] in (6, 7, 13)
                 calls.append(call)
                 expected.append(naive_answer(house, call, seen))
+            self.assertEqual((len(house.rows), plans), (40, 12))
             self.assertEqual(ask(*calls), expected)
-        self.assertTrue(all(count > 50 for count in seen.values()), seen)
 
 
 if __name__ == "__main__":

@@ -144,6 +144,11 @@ class WrongColumns(FormTest):
             self.wrong(f"numbers age 10\ncosts {costs}\n" + SECRET, 2)
             self.wrong(f"words age\nword x\nword y of x\ncosts {costs}\n" + SECRET, 4)
 
+    def test_numbers_behind_another_word_than_costs(self):
+        for word in ("cost", "Costs", "costss", "secret", "of"):
+            self.wrong(f"numbers age\n{word} 0 1\n" + SECRET, 2)
+            self.wrong(f"words age\nword x\n{word} 0 1\n" + SECRET, 3)
+
     def test_costs_where_no_column_is_begun(self):
         self.wrong("costs 0 0\n" + COLUMN + SECRET, 1)
         self.wrong(COLUMN + "costs 0 1\n" + SECRET, 3)
